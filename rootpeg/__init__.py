@@ -1,0 +1,1 @@
+"""Rootpeg: numbers held by a row and a stretch."""
