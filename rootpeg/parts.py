@@ -29,3 +29,13 @@ def part_sum(one, other):
 def part_product(one, other):
     """The product of two parts."""
     return part(one[0] * other[0], one[1] * other[1])
+
+
+def turned(at):
+    """The part taken from nought."""
+    return (-at[0], at[1])
+
+
+def middle(low, high):
+    """The part halfway between two parts."""
+    return part(low[0] * high[1] + high[0] * low[1], 2 * low[1] * high[1])

@@ -4,6 +4,8 @@ from math import gcd
 
 from rootpeg.errors import NoRow
 
+SPARE = 64
+
 
 def sign(number):
     """Whether a whole number is below nought (-1), nought (0) or above (1)."""
@@ -45,18 +47,26 @@ def trimmed(row):
 
 
 def bare(row):
-    """The row without a common divisor above 1, its last number above nought.
+    """The row without a common divisor above 1, and its last number above nought.
 
-    The row's last number isn't nought; a row without numbers stays one.
+    The last number of the row that is handed in isn't nought.
     """
-    if not row:
-        return []
     common = 0
     for number in row:
         common = gcd(common, number)
     if row[-1] < 0:
         common = -common
     return [number // common for number in row]
+
+
+def powered(row, by):
+    """The row with each number times by, as often as numbers stand ahead of it."""
+    found = []
+    power = 1
+    for number in row:
+        found.append(number * power)
+        power = power * by
+    return found
 
 
 def slope(row):
@@ -66,31 +76,59 @@ def slope(row):
 
 def common_row(one, other):
     """The longest bare row that divides both bare rows."""
-    while other:
-        # Left as they are, the numbers would grow with each round beyond all need.
-        one, other = other, bare(remainder(one, other))
-    return one
+    # Dividing the rows in turn would make long numbers of short ones. A large number, the place,
+    # is put in the place of x instead: the greatest common divisor of both values mostly has, in
+    # that place, the digits of the row asked for, each times one number.
+    # A row so found that divides both rows is the longest one. Else that would be it times a
+    # third row, whose value at the place divides the one number, which is no more than half the
+    # place, as no digit is; but all roots are nearer nought than half the place, so that a row
+    # that has roots has a value beyond half the place.
+    # A row so found that doesn't divide both is another one in a place that is large enough.
+    size = min(largest(one), largest(other)).bit_length() + SPARE
+    while True:
+        place = (1 << size) + 1
+        found = bare(digits(gcd(value_at(one, place), value_at(other, place)), place))
+        if quotient(one, found) is not None and quotient(other, found) is not None:
+            return found
+        size = 2 * size
 
 
-def remainder(row, other):
-    """What dividing the row, times some number but nought, by the other row leaves over."""
-    left = row
-    while len(left) >= len(other):
-        common = gcd(left[-1], other[-1])
-        factor = left[-1] // common
-        raised = [number * (other[-1] // common) for number in left]
-        left = trimmed(lowered(raised, other, factor))
-    return left
+def largest(row):
+    """How far from nought a number of the row is at most."""
+    return max([abs(number) for number in row])
+
+
+def value_at(row, number):
+    """The row's value at a whole number."""
+    value = 0
+    for factor in reversed(row):
+        value = value * number + factor
+    return value
+
+
+def digits(number, place):
+    """The row whose value at the place is the number, and whose numbers are at most half of it."""
+    half = place // 2
+    found = []
+    while number != 0:
+        digit = (number + half) % place - half
+        found.append(digit)
+        number = (number - digit) // place
+    return found
 
 
 def quotient(row, other):
-    """What dividing the row by the other row gives; both are bare, and nothing is left over."""
-    left = row
+    """What dividing the row by the other, bare row gives; None where something is left over."""
+    left = list(row)
     found = []
     while len(left) >= len(other):
         factor = left[-1] // other[-1]
+        if factor * other[-1] != left[-1]:
+            return None
         found.append(factor)
         left = lowered(left, other, factor)
+    if any(left):
+        return None
     found.reverse()
     return found
 

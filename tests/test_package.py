@@ -11,6 +11,10 @@ LISTED = {
     "errors": ("PegError", "NoPart", "NoRow", "NoStretch", "NotAlone", "NoQuotient"),
     "parts": ("part", "below", "part_sum", "part_product"),
     "rows": ("sign_at", "plain"),
+    "stretches": ("turns",),
+    "pegs": ("peg", "of_part", "narrowed", "compare", "sign_of_peg"),
+    "sums": ("added", "taken", "times", "divided", "opposite"),
+    "roots": ("roots",),
 }
 
 
@@ -36,7 +40,7 @@ class Package(unittest.TestCase):
                 self.assertNotIsInstance(node, ast.Import, name)
                 if isinstance(node, ast.ImportFrom) and not node.module.startswith("rootpeg."):
                     self.assertEqual(node.module, "math", name)
-                    self.assertLessEqual({alias.name for alias in node.names}, {"gcd", "lcm", "isqrt"}, name)
+                    self.assertLessEqual({alias.name for alias in node.names}, {"comb", "gcd", "lcm"}, name)
 
     def test_no_files(self):
         for name, tree in trees():

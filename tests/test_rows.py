@@ -5,33 +5,11 @@ from fractions import Fraction
 from itertools import product
 from math import gcd
 
+from helper import Limited, multiplied, value_at
 from rootpeg.errors import NoPart, NoQuotient, NoRow, NoStretch, NotAlone, PegError
-from rootpeg.rows import plain, sign_at
+from rootpeg.rows import common_row, plain, quotient, sign_at
 
 HUGE = 10 ** 40 + 7
-
-
-def value_at(row, number):
-    """The row's value, straight from point 3."""
-    total = Fraction(0)
-    power = Fraction(1)
-    for factor in row:
-        total += factor * power
-        power *= number
-    return total
-
-
-def multiplied(*rows):
-    """The row whose value is the product of the rows' values."""
-    whole = [1]
-    for row in rows:
-        found = [0] * (len(whole) + len(row) - 1)
-        for at, one in enumerate(whole):
-            for by, other in enumerate(row):
-                found[at + by] += one * other
-        whole = found
-    return whole
-
 
 # Bare rows none of which is a product of others: no two have a root in common.
 SIMPLE = (
@@ -49,7 +27,7 @@ SIMPLE = (
 )
 
 
-class SignAt(unittest.TestCase):
+class SignAt(Limited):
     def assert_sign(self, row, at, sign):
         for kind in (list, tuple):
             answer = sign_at(kind(row), at)
@@ -145,7 +123,51 @@ class SignAt(unittest.TestCase):
         self.assertEqual(sign_at(row, (1, 1)), 0)
 
 
-class Plain(unittest.TestCase):
+class CommonRow(Limited):
+    """Not promised itself: what plain rows and comparing rest on."""
+
+    def assert_common(self, one, other, wanted):
+        for here, there in ((one, other), (other, one), (tuple(one), tuple(other))):
+            self.assertEqual(common_row(here, there), wanted)
+
+    def test_ordinary(self):
+        for one, other, both in product(SIMPLE, repeat=3):
+            wanted = multiplied(both, one) if one == other else both
+            self.assert_common(multiplied(one, both), multiplied(other, both), wanted)
+
+    def test_nothing_in_common(self):
+        self.assert_common([-1, 1], [-2, 1], [1])
+        self.assert_common([7], [-2, 1], [1])
+        self.assert_common([-1, 1], [-1 - 2 ** 65, 1], [1])
+        self.assert_common([-1, 1], [-1 - HUGE ** 9, 1], [1])
+
+    def test_values_that_have_much_in_common(self):
+        # At places of 1 and a power of 2, the values of these have large powers of 2 in common.
+        one = multiplied([-1, 1], [-1, 1], [-1, 1])
+        other = [1 - 2 ** 200, -2, 1]
+        self.assert_common(one, other, [1])
+        for both in ([-5, 1], [1, 3, 7], [-HUGE, 0, HUGE + 1]):
+            self.assert_common(multiplied(one, both), multiplied(other, both), both)
+        once = multiplied([-1, 1], other)
+        self.assertEqual(plain(multiplied(one, other)), once)
+        self.assertEqual(plain(multiplied(once, one, other, other)), once)
+
+    def test_a_common_row_of_larger_numbers(self):
+        # What divides a row may have far larger numbers than the row.
+        short = multiplied(*[[1, 1]] * 150)
+        row = multiplied(short, *[[-1, 1]] * 150)
+        self.assert_common(row, multiplied(short, [5, 1]), short)
+
+    def test_quotient(self):
+        for one, other in product(SIMPLE, repeat=2):
+            self.assertEqual(quotient(multiplied(one, other), other), one)
+            if one != other:
+                self.assertIsNone(quotient(multiplied(one, one), other))
+        self.assertIsNone(quotient([-1, 1], [1, 0, 1]))
+        self.assertIsNone(quotient([1, 1, 1], [-1, 2]))
+
+
+class Plain(Limited):
     def assert_plain(self, row, wanted):
         for kind in (list, tuple):
             answer = plain(kind(row))
